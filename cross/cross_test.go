@@ -25,6 +25,7 @@ func TestMainPlaces(t *testing.T) {
 		{api.JustBetween, 100, []int{0, 0, 0, 0}, []int{0, 33, 66, 100}},
 		{api.JustBetween, 10, []int{1, 1, 1, 1}, []int{0, 3, 6, 9}},
 		{api.JustBetween, 11, []int{1, 1, 1, 1}, []int{0, 3, 6, 10}},
+		{api.JustBetween, 100, []int{10, 20}, []int{0, 80}},
 		{api.JustBetween, 100, []int{10}, []int{0}},
 		{api.JustEnd, 100, []int{10}, []int{90}},
 		{api.JustCenter, 100, []int{11}, []int{44}},

@@ -56,6 +56,11 @@ func TestResolve(t *testing.T) {
 		{[]api.Item{between(50, 60, most, 1, 1, 0), item(90, 1, 1)}, 100, []int{60, 40}},
 		{[]api.Item{between(50, 60, most, 1, 1, 0), item(10, 1, 1)}, 100, []int{70, 30}},
 		{[]api.Item{between(150, 0, 120, 1, 1, 0), item(50, 1, 1)}, 100, []int{75, 25}},
+		{[]api.Item{between(16, 0, most, 1, 1, 0), between(25, 0, 12, 0, 0, 0), between(25, 0, most, 1, 1, 0), between(28, 19, 27, 3, 2, 0)}, 57, []int{11, 12, 15, 19}},
+		{[]api.Item{between(3, 11, most, 1, 1, 0), between(8, 0, 27, 2, 1, 0), between(21, 0, 16, 0, 1, 0), between(26, 0, 1, 1, 1, 0)}, 24, []int{11, 4, 8, 1}},
+		{[]api.Item{between(0, 6, most, 0, 0, 0), between(11, 0, 13, 1, 1, 0), between(8, 0, most, 1, 1, 0), between(5, 0, 28, 2, 2, 0)}, 58, []int{6, 13, 16, 23}},
+		{[]api.Item{between(7, 0, 3, 1, 1, 0), between(20, 0, most, 1, 3, 0), between(20, 0, most, 1, 3, 0), between(13, 18, 21, 1, 0, 0)}, 62, []int{3, 20, 21, 18}},
+		{[]api.Item{between(24, 0, most, 0, 1, 0), between(20, 0, most, 1, 1, 0), between(6, 0, most, 1, 1, 0), between(18, 16, 6, 0, 1, 4), between(4, 5, most, 3, 1, 0)}, 74, []int{24, 20, 5, 16, 5}},
 		// Growing, with some at their greatest or their least ones.
 		{[]api.Item{between(0, 0, 20, 1, 0, 0), item(0, 1, 0), item(0, 1, 0)}, 100, []int{20, 40, 40}},
 		{[]api.Item{between(0, 70, most, 1, 0, 0), item(0, 1, 0), item(0, 1, 0)}, 100, []int{70, 15, 15}},
@@ -76,6 +81,9 @@ func TestResolve(t *testing.T) {
 	} {
 		if got, e := flexible.Resolve(c.is, c.room); !slices.Equal(got, c.want) || e != api.OK {
 			t.Errorf("P20.1: row %d: %v, %d; want %v", i, got, e, c.want)
+		}
+		if got := slow(c.is, c.room); !slices.Equal(got, c.want) {
+			t.Errorf("P20.1: row %d, slowly: %v; want %v", i, got, c.want)
 		}
 	}
 }

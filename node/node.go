@@ -11,7 +11,7 @@ import (
 func Kids(ns []api.Node, at int) []int {
 	var kids []int
 	for i, n := range ns {
-		if i > 0 && n.Parent == at {
+		if n.Parent == at {
 			kids = append(kids, i)
 		}
 	}
