@@ -46,6 +46,7 @@ func TestSizes(t *testing.T) {
 		{[]api.Node{flex(-1, "")}, 0, 0, 0},
 		{[]api.Node{block(-1, "inline-size: 50; padding-left: 5")}, 0, 0, 0},
 		{[]api.Node{block(-1, ""), block(0, "")}, 0, 0, 0},
+		{[]api.Node{block(-1, ""), block(0, "min-inline-size: 90%")}, 0, 0, 0},
 		{[]api.Node{flex(-1, ""), block(0, "padding-left: 7"), flex(0, "margin-right: 2")}, 0, 9, 9},
 		{[]api.Node{block(-1, ""), text(0, " aa b  ")}, 1, 1024, 1792},
 		{[]api.Node{block(-1, ""), text(0, " aa b  ")}, 0, 1024, 1792},

@@ -4,6 +4,7 @@ import (
 	"math"
 	"slices"
 	"testing"
+	"unsafe"
 
 	"forme/api"
 	"forme/cascade"
@@ -119,6 +120,18 @@ func TestTurn(t *testing.T) {
 				t.Fatalf("R4: Turn changes or shares %v", before[i])
 			}
 		}
+	}
+}
+
+// TestOwn (R4): texts and values are in memory of their own.
+func TestOwn(t *testing.T) {
+	ns := probe.Tree("block width: 50%\n  text words and words")
+	got, _ := twin.Turn(plain, ns)
+	if unsafe.StringData(got[1].Text) == unsafe.StringData(ns[1].Text) {
+		t.Error("R4: a text is the tree's")
+	}
+	if unsafe.StringData(got[0].Decls[0].Value) == unsafe.StringData(ns[0].Decls[0].Value) {
+		t.Error("R4: a value is the tree's")
 	}
 }
 

@@ -5,6 +5,7 @@ import (
 	"slices"
 	"strings"
 	"testing"
+	"unsafe"
 
 	"forme/api"
 	"forme/glyph"
@@ -73,6 +74,17 @@ func TestSplitTold(t *testing.T) {
 		}
 		if told != strings.TrimLeft(text, " ") {
 			t.Fatalf("P5.1: Split(%q): %v", text, ws)
+		}
+	}
+}
+
+// TestOwn (R4): words are in memory of their own.
+func TestOwn(t *testing.T) {
+	s := strings.Repeat("ab ", 3)
+	ws, _ := words.Split(s)
+	for i, w := range ws {
+		if unsafe.StringData(w.Text) == unsafe.StringData(s[3*i:]) {
+			t.Errorf("R4: word %d is a piece of the text", i)
 		}
 	}
 }
