@@ -18,10 +18,35 @@ func TestCollapse(t *testing.T) {
 		{-5, -3, -5}, {-3, -5, -5}, {-5, 0, -5}, {0, -5, -5},
 		{5, -3, 2}, {-3, 5, 2}, {3, -5, -2}, {-5, 3, -2},
 		{most, most, most}, {-most, -most, -most}, {most, -most, 0},
-		{most + 1, 5, 0}, {5, most + 1, 0}, {-most - 1, -5, 0}, {-5, -most - 1, 0}, {math.MinInt, math.MaxInt, 0}, {math.MaxInt, 1, 0},
+		{most + 1, 5, 5}, {5, most + 1, 5}, {-most - 1, 5, 5}, {5, -most - 1, 5},
+		{most + 1, -5, -5}, {-5, most + 1, -5}, {-most - 1, -5, -5}, {-5, -most - 1, -5}, {-most - 1, -3, -3},
+		{most + 1, most, most}, {-most, -most - 1, -most}, {most + 1, 0, 0}, {0, -most - 1, 0},
+		{math.MaxInt, 1, 1}, {-1, math.MinInt, -1}, {math.MinInt, math.MaxInt, 0}, {math.MaxInt, math.MaxInt, 0}, {most + 1, -most - 1, 0},
 	} {
 		if got := margin.Collapse(c.a, c.b); got != c.want {
 			t.Errorf("P12.1: Collapse(%d, %d): %d, want %d", c.a, c.b, got, c.want)
+		}
+	}
+}
+
+// TestCollapseBeyond: a margin that may not be counts as 0, ahead of the other
+// one and behind it; All refuses it.
+func TestCollapseBeyond(t *testing.T) {
+	beyond := []int{most + 1, -most - 1, 1 << 40, -1 << 40, math.MaxInt, math.MinInt}
+	may := []int{most, most - 1, 7, 1, 0, -1, -7, 1 - most, -most}
+	for _, odd := range beyond {
+		for _, x := range may {
+			if a, b := margin.Collapse(odd, x), margin.Collapse(x, odd); a != x || b != x {
+				t.Errorf("P12.1: %d, %d: %d, %d", odd, x, a, b)
+			}
+			if got, e := margin.All([]int{x, odd}); got != 0 || e != api.ErrMarginForm {
+				t.Errorf("P12.2: %d, %d: %d, %d", x, odd, got, e)
+			}
+		}
+		for _, other := range beyond {
+			if got := margin.Collapse(odd, other); got != 0 {
+				t.Errorf("P12.1: %d, %d: %d, want 0", odd, other, got)
+			}
 		}
 	}
 }
